@@ -80,18 +80,20 @@ func (v view) outlineFits() bool {
 		within(len(p.Blocks), 1, MaxBlocks) && instructions(p) <= MaxIns
 }
 
-// blockFits reports whether a block is valid. Of its end, the chapter speaks only of the fields that are used.
+// blockFits reports whether a block is valid.
 func (v view) blockFits(b api.Block) bool {
-	if slices.ContainsFunc(b.Ins, func(i api.Ins) bool { return !v.insFits(i) }) {
-		return false
-	}
+	return v.endFits(b) && !slices.ContainsFunc(b.Ins, func(i api.Ins) bool { return !v.insFits(i) })
+}
+
+// endFits reports whether the end of a block is valid: what it does not use is 0 as well, and its register api.None.
+func (v view) endFits(b api.Block) bool {
 	switch b.End {
 	case api.EndJump:
-		return v.isBlock(b.To)
+		return v.registerFits(b.A, false) && v.isBlock(b.To) && b.Else == 0
 	case api.EndBranch:
-		return v.isRegister(b.A) && v.isBlock(b.To) && v.isBlock(b.Else)
+		return v.registerFits(b.A, true) && v.isBlock(b.To) && v.isBlock(b.Else)
 	case api.EndRet:
-		return v.registerFits(b.A, !v.proc.Void)
+		return v.registerFits(b.A, !v.proc.Void) && b.To == 0 && b.Else == 0
 	}
 	return false
 }

@@ -156,15 +156,57 @@ func TestProcedures(t *testing.T) {
 		"a return of none":    {func(m *api.Module, p *api.Proc) { p.Blocks[2].A = none }, api.ErrForm},
 		"a return of 4":       {func(m *api.Module, p *api.Proc) { p.Blocks[2].A = 4 }, api.ErrForm},
 		"an unreachable one":  {func(m *api.Module, p *api.Proc) { p.Blocks = append(p.Blocks, api.Block{}) }, api.ErrForm},
-		"what ends do not use": {func(m *api.Module, p *api.Proc) {
-			p.Blocks[0].A, p.Blocks[0].Else, p.Blocks[2].To, p.Blocks[2].Else = 0, 9, 9, 9
-		}, api.OK},
 	} {
 		module, proc := changed(x.change)
 		if module != x.want || proc != x.want {
 			t.Errorf("%s: %v, %v", name, module, proc)
 		}
 	}
+}
+
+// Promise 13.1: the fields that block ends use, and those that they do not.
+func TestEnds(t *testing.T) {
+	numbers := []int{math.MinInt, -2, -1, 0, 1, 2, 3, math.MaxInt}
+	// what may stand in A, To and Else of an end, in a procedure with two registers and three blocks
+	registers, targets, nothing, zero := []int{0, 1}, []int{0, 1, 2}, []int{none}, []int{0}
+	for name, x := range map[string]struct {
+		end          int
+		void         bool
+		a, to, other []int
+	}{
+		"a jump":                  {api.EndJump, false, nothing, targets, zero},
+		"a jump where it is void": {api.EndJump, true, nothing, targets, zero},
+		"a branch":                {api.EndBranch, false, registers, targets, targets},
+		"a branch if it is void":  {api.EndBranch, true, registers, targets, targets},
+		"a return":                {api.EndRet, false, registers, zero, zero},
+		"a return of nothing":     {api.EndRet, true, nothing, zero, zero},
+		"no end":                  {0, false, nil, nil, nil},
+		"an end before the first": {-1, false, nil, nil, nil},
+		"an end after the last":   {api.EndRet + 1, true, nil, nil, nil},
+	} {
+		for n := range 8 * 8 * 8 {
+			b := api.Block{End: x.end, A: numbers[n%8], To: numbers[n/8%8], Else: numbers[n/64]}
+			want := api.ErrForm
+			if slices.Contains(x.a, b.A) && slices.Contains(x.to, b.To) && slices.Contains(x.other, b.Else) {
+				want = api.OK
+			}
+			if m := endingIn(b, x.void); ir.Check(m) != want || ir.Proc(m, 1) != want {
+				t.Errorf("%s: %v: %v, %v", name, b, ir.Check(m), ir.Proc(m, 1))
+			}
+		}
+	}
+}
+
+// endingIn is a module whose procedure 1, void or not, has two registers and three blocks, the last of them this one.
+func endingIn(b api.Block, void bool) api.Module {
+	back := api.Block{End: api.EndRet}
+	if void {
+		back.A = none
+	}
+	return api.Module{Procs: []api.Proc{
+		{Regs: 1, Blocks: []api.Block{{End: api.EndRet}}},
+		{Regs: 2, Void: void, Blocks: []api.Block{back, back, b}},
+	}}
 }
 
 // Promise 13.1: Proc looks at one procedure only.

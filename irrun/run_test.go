@@ -287,6 +287,12 @@ func TestForm(t *testing.T) {
 	if got := irrun.Run(bad, nil, 0); got.E != api.ErrForm {
 		t.Errorf("without steps: %v", got)
 	}
+	for _, b := range []api.Block{
+		{End: api.EndJump, A: 0, To: 1}, {End: api.EndJump, A: none, To: 1, Else: 1},
+		{End: api.EndRet, To: 1}, {End: api.EndRet, Else: 1},
+	} {
+		gives(t, mainOf(b, back(0)), api.Outcome{E: api.ErrForm})
+	}
 	m := mainOf(back(0))
 	m.Main = 1
 	if e := ir.Check(m); e != api.ErrForm {
