@@ -1,4 +1,5 @@
-// Package drawn makes programs for tests: texts that check.Check accepts. Each has a number, and is the same whenever it is made.
+// Package drawn is no layer: it makes programs for tests, texts that check.Check accepts, and modules. Each has a number, and is the same
+// whenever it is made.
 package drawn
 
 import (

@@ -1,11 +1,15 @@
 package drawn_test
 
 import (
+	"reflect"
 	"testing"
 
 	"rushlight/api"
 	"rushlight/check"
 	"rushlight/drawn"
+	"rushlight/ir"
+	"rushlight/irrun"
+	"rushlight/sketch"
 	"rushlight/tree"
 )
 
@@ -43,5 +47,49 @@ func TestRoll(t *testing.T) {
 	}
 	if len(seen) != 7 || d.Roll(1) != 0 || d.Roll(0) != 0 || d.Roll(-5) != 0 {
 		t.Errorf("beyond the range: %v", seen)
+	}
+}
+
+// All modules are valid and the same whenever they are made; those that are tame terminate.
+func TestModules(t *testing.T) {
+	seen := map[string]struct{}{}
+	for n := range 500 {
+		for k, make := range []func(n int) api.Module{drawn.WildModule, drawn.TameModule, drawn.Lowered} {
+			m, text := make(n), ""
+			for _, p := range m.Procs {
+				text += ir.Text(p) + "\n"
+			}
+			if ir.Check(m) != api.OK || !reflect.DeepEqual(m, make(n)) {
+				t.Fatalf("%d, %d: %v", k, n, m)
+			}
+			seen[text] = struct{}{}
+		}
+		if o := irrun.Run(drawn.TameModule(n), []uint32{3}, irrun.MaxFuel); o.E != api.OK || len(o.Out) == 0 {
+			t.Errorf("%d: %v", n, o)
+		}
+	}
+	if len(seen) < 1450 {
+		t.Errorf("%d different modules", len(seen))
+	}
+}
+
+// Unequal finds what is not valid and what behaves otherwise.
+func TestUnequal(t *testing.T) {
+	m := sketch.Main(sketch.Ret(0, sketch.Const(0, 7), sketch.Out(0)))
+	for n, change := range []func(p *api.Proc){
+		func(p *api.Proc) { p.Regs = 0 }, func(p *api.Proc) { p.Name = "x" }, func(p *api.Proc) { p.Void = true },
+		func(p *api.Proc) { p.Blocks = []api.Block{sketch.Ret(0, sketch.Const(0, 8), sketch.Out(0))} },
+		func(p *api.Proc) { p.Blocks = []api.Block{sketch.Ret(1, sketch.Const(0, 7), sketch.Out(0))} },
+		func(p *api.Proc) {
+			p.Blocks = []api.Block{sketch.Ret(0, sketch.Const(0, 7), sketch.Out(0), sketch.In(1))}
+		},
+		func(p *api.Proc) { p.Blocks = []api.Block{sketch.Jump(0)} },
+	} {
+		if drawn.Unequal(m, 100, func(p api.Proc) api.Proc { change(&p); return p }) == "" {
+			t.Errorf("change %d does not show", n)
+		}
+	}
+	if s := drawn.Unequal(m, 100, func(p api.Proc) api.Proc { p.Regs++; return p }); s != "" {
+		t.Errorf("%s", s)
 	}
 }

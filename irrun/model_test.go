@@ -8,6 +8,7 @@ import (
 	"rushlight/drawn"
 	"rushlight/ir"
 	"rushlight/irrun"
+	. "rushlight/sketch"
 )
 
 // model executes modules as the chapter words it: by functions that call themselves, and that panic with an api.Errno.
@@ -128,7 +129,7 @@ func (x *model) execute(i api.Ins, regs map[int]uint32, objects []uint32, bottom
 			args = append(args, regs[r])
 		}
 		v := x.call(i.Obj, args, bottom, floor)
-		if i.D != none {
+		if i.D != None {
 			regs[i.D] = v
 		}
 	case api.IrOut:
@@ -158,116 +159,19 @@ func (x *model) accessed(a uint32, i api.Ins) []byte {
 	return l
 }
 
-// maker makes valid modules.
-type maker struct {
-	drawn.Dice
-	m api.Module
-	p *api.Proc // the procedure that is being made
-}
-
-// module is a module. Its procedures call each other.
-func (k *maker) module() api.Module {
-	k.m = withGlobals(api.Module{}, 1+k.Roll(9), 4, 1+k.Roll(3))
-	for n := range 1 + k.Roll(4) {
-		p := api.Proc{Regs: 3 + k.Roll(6), Void: n > 0 && k.Roll(3) == 0, Objects: slots(1+k.Roll(6), 1+k.Roll(40))}
-		if n > 0 {
-			p.Params = k.Roll(4)
-		}
-		k.m.Procs = append(k.m.Procs, p)
-	}
-	for n := range k.m.Procs {
-		k.p = &k.m.Procs[n]
-		count := 1 + k.Roll(5)
-		for range count {
-			k.p.Blocks = append(k.p.Blocks, k.block(count))
-		}
-	}
-	return k.m
-}
-
-func (k *maker) register() int { return k.Roll(k.p.Regs) }
-
-// block is a block of a procedure of so many.
-func (k *maker) block(count int) api.Block {
-	var l []api.Ins
-	for range k.Roll(9) {
-		l = append(l, k.instructions()...)
-	}
-	to, other := k.Roll(count), k.Roll(count)
-	switch k.Roll(4) {
-	case 0:
-		return jump(to, l...)
-	case 1, 2:
-		return branch(k.register(), to, other, l...)
-	}
-	if k.p.Void {
-		return back(none, l...)
-	}
-	return back(k.register(), l...)
-}
-
-// instructions is an instruction, perhaps behind one that makes what it needs.
-func (k *maker) instructions() []api.Ins {
-	d, a, b, fn := k.register(), k.register(), k.register(), 1+k.Roll(16)
-	switch k.Roll(14) {
-	case 0:
-		return []api.Ins{constant(d, []uint32{0, 1, 3, 255, 1 << 31, 1<<32 - 1}[k.Roll(6)])}
-	case 1:
-		return []api.Ins{ins(api.IrCopy, d, a, none)}
-	case 2, 3:
-		return []api.Ins{binary(fn, d, a, b)}
-	case 4:
-		return []api.Ins{unary(api.FnNeg+k.Roll(3), d, a)}
-	case 5, 6:
-		return []api.Ins{k.place(a), load(d, a, 4*k.Roll(3)+k.Roll(8)/7, 4), out(d)}
-	case 7:
-		return []api.Ins{k.place(a), load(d, a, k.Roll(9), 1), out(d)}
-	case 8, 9:
-		return []api.Ins{k.place(a), store(a, b, 4*k.Roll(4)-4+k.Roll(8)/7, 4)}
-	case 10:
-		return []api.Ins{k.place(a), store(a, b, k.Roll(9)-4, 1)}
-	case 11:
-		return []api.Ins{out(a)}
-	case 12:
-		return []api.Ins{in(d)}
-	}
-	return []api.Ins{k.call(d)}
-}
-
-// place is an IrFrame or IrGlobal, or a constant that lies in the memory or at its ends.
-func (k *maker) place(d int) api.Ins {
-	switch k.Roll(9) {
-	case 0:
-		return constant(d, api.Base+uint32(65536*k.Roll(2)+4*k.Roll(4)-8*k.Roll(2)))
-	case 1, 2, 3:
-		return where(api.IrFrame, d, k.Roll(2), k.Roll(3)*4)
-	}
-	return where(api.IrGlobal, d, k.Roll(3), k.Roll(3)*4)
-}
-
-func (k *maker) call(d int) api.Ins {
-	n := k.Roll(len(k.m.Procs))
-	i := call(d, n)
-	if k.m.Procs[n].Void {
-		i.D = none
-	}
-	for range k.m.Procs[n].Params {
-		i.Args = append(i.Args, k.register())
-	}
-	return i
-}
-
 // Promise 14.1: drawn modules with drawn fuel, held against the model.
 func TestDrawnModules(t *testing.T) {
 	seen, outs, ins := map[api.Errno]int{}, 0, 0
 	for n := range 6000 {
-		k := &maker{Dice: drawn.Dice(n)}
-		m := k.module()
+		dice, m := drawn.Dice(n), drawn.WildModule(n)
+		if n%3 == 0 {
+			m = drawn.TameModule(n)
+		}
 		if e := ir.Check(m); e != api.OK {
 			t.Fatalf("%v: %v", m, e)
 		}
-		for _, fuel := range []int{k.Roll(20), 3000} {
-			got, want := irrun.Run(m, list(1, 300, -1), fuel), modelRun(m, list(1, 300, -1), fuel)
+		for _, fuel := range []int{dice.Roll(20), 3000} {
+			got, want := irrun.Run(m, Words(1, 300, -1), fuel), modelRun(m, Words(1, 300, -1), fuel)
 			if !equal(got, want) {
 				t.Fatalf("%v with %d steps: %v, not %v", m, fuel, got, want)
 			}
