@@ -54,7 +54,7 @@ func TestRoll(t *testing.T) {
 func TestModules(t *testing.T) {
 	seen := map[string]struct{}{}
 	for n := range 500 {
-		for k, make := range []func(n int) api.Module{drawn.WildModule, drawn.TameModule, drawn.Lowered} {
+		for k, make := range []func(n int) api.Module{drawn.WildModule, drawn.TameModule, drawn.CallModule, drawn.Lowered} {
 			m, text := make(n), ""
 			for _, p := range m.Procs {
 				text += ir.Text(p) + "\n"
@@ -64,11 +64,13 @@ func TestModules(t *testing.T) {
 			}
 			seen[text] = struct{}{}
 		}
-		if o := irrun.Run(drawn.TameModule(n), []uint32{3}, irrun.MaxFuel); o.E != api.OK || len(o.Out) == 0 {
-			t.Errorf("%d: %v", n, o)
+		for _, m := range []api.Module{drawn.TameModule(n), drawn.CallModule(n)} {
+			if o := irrun.Run(m, []uint32{3}, irrun.MaxFuel); o.E != api.OK || len(o.Out) == 0 {
+				t.Errorf("%d: %v", n, o)
+			}
 		}
 	}
-	if len(seen) < 1450 {
+	if len(seen) < 1900 {
 		t.Errorf("%d different modules", len(seen))
 	}
 }

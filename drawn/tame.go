@@ -10,7 +10,7 @@ import (
 // TameModule is module n of those that are valid and terminate: their accesses stay within the memory, though not within objects,
 // their loops end, and no procedure calls itself. It may take them more steps than a run has.
 func TameModule(n int) api.Module {
-	k := &tameMaker{Dice: Dice(n)}
+	k := &tameMaker{Dice: Dice(n), most: 10}
 	k.module = sketch.WithGlobals(api.Module{}, 1+k.Roll(4), 24, 1+k.Roll(8))
 	for n := range 1 + k.Roll(4) {
 		p := api.Proc{Void: n > 0 && k.Roll(3) == 0, Objects: sketch.Slots(1+k.Roll(8), 24)}
@@ -32,6 +32,8 @@ type tameMaker struct {
 	module    api.Module
 	number    int       // of the procedure that is being made
 	free      int       // how many of its registers instructions may set; behind them are those that count rounds
+	most      int       // less instructions than that are drawn for a block
+	calling   bool      // many of them are calls
 	code      []api.Ins // of the block that is being made
 	addresses []int     // the registers that hold addresses there
 }
@@ -46,7 +48,7 @@ func (k *tameMaker) procedure(count int) {
 		if n == 0 {
 			k.code = []api.Ins{sketch.Const(counter, uint32(2+k.Roll(6))), sketch.Const(one, 1)}
 		}
-		for range k.Roll(10) {
+		for range k.Roll(k.most) {
 			k.add()
 		}
 		p.Blocks = append(p.Blocks, k.end(n, count))
@@ -108,6 +110,9 @@ func (k *tameMaker) add() {
 // instruction is an instruction.
 func (k *tameMaker) instruction() api.Ins {
 	d, a, b := k.Roll(k.free), k.Roll(k.free), k.Roll(k.free)
+	if k.calling && k.Roll(3) == 0 {
+		return k.rare(d)
+	}
 	switch k.Roll(20) {
 	case 0, 1:
 		return sketch.Const(d, []uint32{0, 1, 3, 255, 1 << 31, 1<<32 - 1}[k.Roll(6)])
