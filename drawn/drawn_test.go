@@ -54,7 +54,7 @@ func TestRoll(t *testing.T) {
 func TestModules(t *testing.T) {
 	seen := map[string]struct{}{}
 	for n := range 500 {
-		for k, make := range []func(n int) api.Module{drawn.WildModule, drawn.TameModule, drawn.CallModule, drawn.Lowered} {
+		for k, make := range []func(n int) api.Module{drawn.WildModule, drawn.TameModule, drawn.CallModule, drawn.PointerModule, drawn.Lowered} {
 			m, text := make(n), ""
 			for _, p := range m.Procs {
 				text += ir.Text(p) + "\n"
@@ -70,7 +70,7 @@ func TestModules(t *testing.T) {
 			}
 		}
 	}
-	if len(seen) < 1900 {
+	if len(seen) < 2350 {
 		t.Errorf("%d different modules", len(seen))
 	}
 }

@@ -2,9 +2,11 @@ package procs_test
 
 import (
 	"reflect"
+	"slices"
 	"testing"
 
 	"rushlight/api"
+	"rushlight/flow"
 	"rushlight/procs"
 	. "rushlight/sketch"
 )
@@ -70,5 +72,28 @@ func TestEqual(t *testing.T) {
 	p.Blocks[1].Ins, p.Blocks[0].Ins[1].Args = []api.Ins{}, []int{}
 	if !procs.Equal(p, sample()) {
 		t.Errorf("nil and empty differ")
+	}
+}
+
+// Entered has all blocks reached, and no cycles but those of the blocks that lead on.
+func TestEntered(t *testing.T) {
+	p := api.Proc{Name: "p", Blocks: []api.Block{Ret(0), Jump(3, Out(1)), Branch(4, 1, 2), Jump(2)}}
+	q := procs.Entered(p, func(n int) bool { return n != 2 })
+	want := []api.Block{Branch(0, 4, 1), Branch(0, 5, 2), Branch(0, 6, 3), Jump(7), {End: api.EndRet, To: 4, Else: 4}, {End: api.EndJump, A: None, To: 7, Else: 4}, {End: api.EndRet}, {End: api.EndJump, A: None, To: 6, Else: 4}}
+	if !procs.Equal(q, api.Proc{Name: "p", Blocks: want}) {
+		t.Errorf("%v", q.Blocks)
+	}
+	if len(flow.Back(q)) > 0 || slices.Contains(flow.Reach(q), false) {
+		t.Errorf("%v, %v", flow.Back(q), flow.Reach(q))
+	}
+	q = procs.Entered(p, func(n int) bool { return true })
+	if l := flow.Back(q); !slices.Equal(l, [][2]int{{6, 5}, {6, 6}}) {
+		t.Errorf("%v", l)
+	}
+	if len(p.Blocks) != 4 || len(p.Blocks[1].Ins) != 1 || p.Blocks[1].To != 3 {
+		t.Errorf("changed: %v", p.Blocks)
+	}
+	if q := procs.Entered(api.Proc{}, nil); len(q.Blocks) > 0 {
+		t.Errorf("of nothing: %v", q)
 	}
 }
