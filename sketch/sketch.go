@@ -102,6 +102,18 @@ func Slots(sizes ...int) []api.Slot {
 	return l
 }
 
+// InReg is a seat in a register of the machine.
+func InReg(n int) api.Seat { return api.Seat{Reg: n} }
+
+// InSlot is a seat in a slot.
+func InSlot(n int) api.Seat { return api.Seat{Slot: n} }
+
+// Nowhere is the seat of a register without a range.
+func Nowhere() api.Seat { return api.Seat{Slot: None} }
+
+// Seats is seats.
+func Seats(l ...api.Seat) []api.Seat { return l }
+
 // Main is a module of a main with 10 registers and these blocks.
 func Main(l ...api.Block) api.Module {
 	return api.Module{Procs: []api.Proc{{Regs: 10, Blocks: l}}}
