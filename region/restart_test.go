@@ -6,18 +6,10 @@ import (
 	"testing"
 
 	"rushlight/api"
-	"rushlight/check"
-	"rushlight/dead"
 	"rushlight/drawn"
-	"rushlight/fold"
-	"rushlight/inline"
-	"rushlight/interp"
 	"rushlight/irrun"
-	"rushlight/lower"
 	"rushlight/record"
 	"rushlight/region"
-	"rushlight/shape"
-	"rushlight/tree"
 )
 
 // call is a call of a procedure: where it stands, and what is lost at a failure.
@@ -272,24 +264,6 @@ func (x *machine) agrees(want api.Outcome) bool {
 	return record.Orderly(x.log) && slices.Equal(record.Values(first), want.Out) && x.exit == want.Exit
 }
 
-// defined is the module of tame program n, and what the program does with some inputs; or false if that does something undefined or takes long.
-func defined(n int, inputs []uint32) (api.Module, api.Outcome, bool) {
-	p, _, _ := tree.Read(drawn.Tame(n))
-	u, _, _ := check.Check(p)
-	want := interp.Run(u, inputs, 20000)
-	m, e := lower.Lower(u)
-	return m, want, want.E == api.OK && e == api.OK && irrun.Run(m, inputs, 10000).E == api.OK
-}
-
-// better is a module whose procedures are folded, inlined, and so on.
-func better(m api.Module) api.Module {
-	m = inline.All(m)
-	for n, p := range m.Procs {
-		m.Procs[n] = shape.Tidy(dead.Dead(fold.Fold(p)))
-	}
-	return m
-}
-
 // plans is the plans of a module.
 func plans(m api.Module, spilled [][]bool, notes int) api.Module {
 	planned := m
@@ -307,14 +281,14 @@ func TestRestart(t *testing.T) {
 	programs, broken, replays := 0, 0, 0
 	for n := range 500 {
 		inputs := []uint32{uint32(n), 3, 0, 7}
-		m, want, is := defined(n, inputs)
+		m, want, is := drawn.Defined(n, inputs)
 		if !is {
 			continue
 		}
 		programs++
 		d := drawn.Dice(n)
 		if d.Roll(2) == 0 {
-			m = better(m)
+			m = drawn.Better(m)
 		}
 		var spilled [][]bool
 		for _, p := range m.Procs {
